@@ -1,0 +1,1 @@
+"""Sinktree: records changed by small programs that sink through a tree."""
