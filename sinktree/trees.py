@@ -111,3 +111,8 @@ def is_plain(head, worth):
 def operands_of(expression):
     """Return the operands of an expression."""
     return expression[1:1 + OPERANDS.get(expression[0], 0)]
+
+
+def numbers_of(expression):
+    """Return the numbers that stand behind the operands of an operator: one or none."""
+    return expression[1 + OPERANDS[expression[0]]:]
