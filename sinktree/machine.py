@@ -5,6 +5,7 @@ from sinktree.operators import operator_value
 from sinktree.schemas import LIMIT, TEXT_MOST
 from sinktree.trees import NUMBERS, OPERANDS
 
+CODE_MOST = 400
 NUMBER_MOST = 10 ** 9
 
 

@@ -2,7 +2,6 @@
 
 import copy
 import itertools
-import random
 import unittest
 
 from sinktree.checker import bounds_of, check_program
@@ -10,19 +9,10 @@ from sinktree.errors import BadProgram
 from sinktree.meaning import evaluate
 from sinktree.schemas import is_record
 from sinktree.trees import is_program
+from tests.makers import SCHEMA, ProgramMaker
 
 LIMIT = 10 ** 18
 BIG = 10 ** 9
-SCHEMA = (
-    ("n", ("int", 0, 9)),
-    ("m", ("int", -3, 5)),
-    ("low", ("int", -9, -4)),
-    ("on", ("flag",)),
-    ("state", ("word", ("old", "new", "done"))),
-    ("mood", ("word", ("sad", "new"))),
-    ("note", ("text", 5)),
-    ("long", ("text", 40)),
-)
 N = ("field", "n")
 M = ("field", "m")
 LOW = ("field", "low")
@@ -458,79 +448,6 @@ class FirstFault(unittest.TestCase):
         self.assertEqual((schema, program), (SCHEMA, kept))
 
 
-class Maker:
-    """Makes programs and records at random, always the same ones for one seed."""
-
-    def __init__(self, seed):
-        self.random = random.Random(seed)
-
-    def expression(self, kind, depth):
-        pick = self.random.choice
-        if depth == 0 or self.random.random() < 0.2:
-            return pick(self.plain(kind))
-        inner = self.expression
-        if kind == "int":
-            head = pick(("add", "sub", "mul", "min", "max", "div", "mod", "pick"))
-            if head in ("div", "mod"):
-                return (head, inner("int", depth - 1), self.random.randint(1, 12))
-            if head != "pick":
-                return (head, inner("int", depth - 1), inner("int", depth - 1))
-        elif kind == "flag":
-            head = pick(("less", "same", "not", "and", "or", "pick"))
-            if head == "not":
-                return ("not", inner("flag", depth - 1))
-            if head != "pick":
-                other = {"less": "int", "same": pick(("int", "flag", "word", "text"))}.get(head, "flag")
-                return (head, inner(other, depth - 1), inner(other, depth - 1))
-        elif kind == "text":
-            head = pick(("cut", "join", "pick"))
-            if head == "cut":
-                return ("cut", inner("text", depth - 1), self.random.randint(0, 12))
-            if head == "join":
-                return ("join", inner("text", depth - 1), inner("text", depth - 1))
-        return ("pick", inner("flag", depth - 1), inner(kind, depth - 1), inner(kind, depth - 1))
-
-    def plain(self, kind):
-        return {
-            "int": (N, M, LOW, ("int", self.random.randint(-12, 12))),
-            "flag": (ON, YES, ("flag", False)),
-            "word": (STATE, MOOD, NEW, ("word", "sad")),
-            "text": (NOTE, LONG, EMPTY, ("text", "xyz")),
-        }[kind]
-
-    def fitted(self, name, kind, expression):
-        """Make an integer or a text fit its field."""
-        if kind[0] == "int":
-            return ("min", ("int", kind[2]), ("max", ("int", kind[1]), expression))
-        if kind[0] == "text":
-            return ("cut", expression, kind[1])
-        return expression if kind[0] == "flag" else ("pick", self.expression("flag", 1), ("field", name), NEW)
-
-    def program(self, depth):
-        statements = []
-        for _ in range(self.random.randint(1, 3)):
-            if depth and self.random.random() < 0.4:
-                condition = self.expression("flag", 2)
-                statements.append(("if", condition, self.program(depth - 1), self.program(depth - 1)))
-            else:
-                name, kind = self.random.choice(SCHEMA)
-                statements.append(("set", name, self.fitted(name, kind, self.expression(kind[0], 3))))
-        return tuple(statements)
-
-    def record(self):
-        values = []
-        for _, kind in SCHEMA:
-            if kind[0] == "int":
-                values.append(self.random.choice((kind[1], kind[2], self.random.randint(kind[1], kind[2]))))
-            elif kind[0] == "flag":
-                values.append(self.random.random() < 0.5)
-            elif kind[0] == "word":
-                values.append(self.random.choice(kind[1]))
-            else:
-                values.append("q" * self.random.choice((0, kind[1], self.random.randint(0, kind[1]))))
-        return tuple(values)
-
-
 def holds(bounds, value):
     if bounds[0] == "int":
         return type(value) is int and bounds[1] <= value <= bounds[2]
@@ -543,7 +460,7 @@ def holds(bounds, value):
 
 class Promise(unittest.TestCase):
     def test_accepted_programs_make_records(self):
-        maker = Maker(109)
+        maker = ProgramMaker(109)
         accepted = 0
         for _ in range(600):
             program = maker.program(2)
@@ -556,7 +473,7 @@ class Promise(unittest.TestCase):
         self.assertGreater(accepted, 200)
 
     def test_values_lie_within_their_bounds(self):
-        maker = Maker(107)
+        maker = ProgramMaker(107)
         names = {"int": "n", "flag": "on", "word": "state", "text": "note"}
         for _ in range(3000):
             kind = maker.random.choice(tuple(names))
