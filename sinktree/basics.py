@@ -18,9 +18,12 @@ def is_word(value):
 
 def is_text(value, most):
     """Tell whether the value is a printable string of at most so many characters."""
-    if not isinstance(value, str) or len(value) > most:
-        return False
-    return all([is_printable(letter) for letter in value])
+    return isinstance(value, str) and len(value) <= most and are_printable(value)
+
+
+def are_printable(text):
+    """Tell whether all characters of a string are printable."""
+    return all([is_printable(letter) for letter in text])
 
 
 def is_printable(letter):

@@ -1,6 +1,7 @@
 """The text of a program: written, and read again."""
 
 from sinktree.basics import is_word
+from sinktree.decimals import is_signed_decimal
 from sinktree.errors import BadText
 from sinktree.schemas import INTEGER_MOST, TEXT_MOST, is_field_name
 from sinktree.tokens import Scanner
@@ -195,6 +196,4 @@ def number_from(scanner, token, low, high):
 
 def are_digits_right(raw, signed):
     """Tell whether a number, with or without a sign, may be written with these digits."""
-    if raw[0] == "0":
-        return raw == "0" and not signed
-    return len(raw) <= DIGITS_MOST
+    return is_signed_decimal("-" + raw if signed else raw) and len(raw) <= DIGITS_MOST

@@ -1,6 +1,7 @@
 """The tokens of the text of a program (point 111)."""
 
 from sinktree.basics import is_printable
+from sinktree.decimals import digits_end, is_digit
 from sinktree.errors import BadText
 
 SIGNS = "=;{}(),+-*/<"
@@ -82,21 +83,9 @@ def is_letter(letter):
     return "a" <= letter <= "z"
 
 
-def is_digit(letter):
-    """Tell whether the character is a decimal digit."""
-    return "0" <= letter <= "9"
-
-
 def letters_end(text, place):
     """Return the index behind the longest run of letters from the place on."""
     while place < len(text) and is_letter(text[place]):
-        place += 1
-    return place
-
-
-def digits_end(text, place):
-    """Return the index behind the longest run of digits from the place on."""
-    while place < len(text) and is_digit(text[place]):
         place += 1
     return place
 
