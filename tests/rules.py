@@ -2,6 +2,8 @@
 
 import random
 
+from sinktree.nodes import apply_messages, child_index
+
 WORDS = tuple(a + b + c for a in "abcdefghij" for b in "abcdefghij" for c in "abcdefghij")
 MORE = ("run", (("load", 0), ("push", 1), ("add",), ("push", 9), ("min",), ("store", 0)))
 TURN = ("run", (("load", 1), ("not",), ("store", 1)))
@@ -64,6 +66,19 @@ def check_rules(root, nodes):
     need(len(found) == len(nodes), "not reached", sorted(set(nodes) - set(found)))
     need(len(depths) == 1, "depths", depths)
     return list(depths)[0]
+
+
+def result(root, nodes, key):
+    """Return the record of a key as point 223 says, from the nodes alone."""
+    waiting = []
+    node = nodes[root]
+    while node[0] == "branch":
+        waiting.append(dict(node[3]).get(key, ()))
+        node = nodes[node[2][child_index(node[1], key)]]
+    record = dict(node[1]).get(key)
+    for messages in reversed(waiting):
+        record = apply_messages(messages, record)
+    return record
 
 
 class TreeMaker:

@@ -6,28 +6,14 @@ import unittest
 
 from sinktree.errors import BadKey
 from sinktree.messages import apply
-from sinktree.nodes import apply_messages, child_index
 from sinktree.tree import Tree
-from tests.rules import DROP, LONG, MORE, TURN, WORDS, Broken, TreeMaker, check_rules, put
+from tests.rules import DROP, LONG, MORE, TURN, WORDS, Broken, TreeMaker, check_rules, put, result
 
 NO_KEYS = (
     None, True, False, 0, 1, 1.5, b"a", "", "A", "a b", " a", "a ", "a1", "abcdefghijklm", "\u00e9", (), ("a",), [], ["a"],
     {}, {"a": 1}, object(), str,
 )
 ENDS = ("", " ", "a", "abc", "abca", "b", "b ", "bz", "c\u00e9", "ccc", "ccca", "jjj", "jjjj", "zzzzzzzzzzzz", "~", "{")
-
-
-def result(root, nodes, key):
-    """Return the record of a key as point 223 says, from the nodes alone."""
-    waiting = []
-    node = nodes[root]
-    while node[0] == "branch":
-        waiting.append(dict(node[3]).get(key, ()))
-        node = nodes[node[2][child_index(node[1], key)]]
-    record = dict(node[1]).get(key)
-    for messages in reversed(waiting):
-        record = apply_messages(messages, record)
-    return record
 
 
 class Pair:
